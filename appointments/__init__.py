@@ -1,0 +1,1 @@
+"""Appointments: who can come when, and who is served in which slot."""
