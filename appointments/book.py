@@ -1,8 +1,10 @@
 """The calls of one line, read one behind another and answered in turn on one new book."""
 
-from appointments.slots import SLOTS, Person, plan_of, windows_needed
+from appointments.slots import (SLOTS, Person, all_served, all_served_with, counted, fitting_slots, held_by, plan_of,
+                                span_needs, taken_by_counts, tightest_span, windows_needed)
 
 NO_SUCH_PERSON = -2
+NOBODY = -6
 NOT_STARTED = -11
 NOT_AS_TOLD = -22
 NO_ROOM = -28
@@ -17,10 +19,6 @@ WORTH = 14
 
 # How many whole numbers stand behind each call's own number; of worth only the one that tells its row's length.
 SIZES = (1, 3, 1, 3, 1, 0, 0, 1, 1, 0, 0, 0, 2, 0, 1, 1, 1, 2, 0, 1, 0)
-
-
-class CallNotBuilt(Exception):
-    """The call is one of the document's, but the program doesn't answer it yet."""
 
 
 class Book:
@@ -129,11 +127,77 @@ def answer_at(book, told):
 
 
 def answer_can(book, told):
-    return [1 if len(book_plan(book)) == len(book.persons) else 0]
+    return [1 if all_served(book.persons, book.windows) else 0]
 
 
 def answer_fewest(book, told):
     return [windows_needed(book.persons)]
+
+
+def answer_tight(book, told):
+    if len(book.persons) == 0:
+        return [NOBODY]
+    span = tightest_span(book.persons)
+    return [span_needs(book.persons, span), span[0], span[1], held_by(book.persons, span[0], span[1])]
+
+
+def answer_load(book, told):
+    if told[1] < told[0] or told[1] > SLOTS:
+        return [NOT_AS_TOLD]
+    return [held_by(book.persons, told[0], told[1])]
+
+
+def answer_worthy(book, told):
+    taken = taken_by_counts(book.persons, book.windows)
+    return [counted(taken)] + sorted(taken)
+
+
+def answer_worth(book, told):
+    numbers = told[1:]
+    picked = dict([(number, book.persons[number]) for number in numbers if number in book.persons])
+    # Fewer than were told are picked just if one hasn't asked or is told twice.
+    if len(picked) < len(numbers):
+        return [NOT_AS_TOLD]
+    if not all_served(picked, book.windows):
+        return [NOT_SERVED]
+    return [counted(picked)]
+
+
+def answer_earliest(book, told):
+    if told[0] not in book.persons:
+        return [NO_SUCH_PERSON]
+    fitting = fitting_slots(book.persons, book.windows, told[0])
+    return [min(fitting, default=NOT_SERVED)]
+
+
+def answer_latest(book, told):
+    if told[0] not in book.persons:
+        return [NO_SUCH_PERSON]
+    fitting = fitting_slots(book.persons, book.windows, told[0])
+    return [max(fitting, default=NOT_SERVED)]
+
+
+def answer_could(book, told):
+    if not time_fits(told[0], told[1]):
+        return [NOT_AS_TOLD]
+    number = least_free_number(book.persons)
+    one_more = Person(told[0], told[1], 0)
+    return [1 if all_served_with(book.persons, book.windows, number, one_more) else 0]
+
+
+def answer_free(book, told):
+    return [SLOTS * book.windows - len(book_plan(book))]
+
+
+def answer_look(book, told):
+    if told[0] not in book.persons:
+        return [NO_SUCH_PERSON]
+    person = book.persons[told[0]]
+    return [person.first, person.end, person.counts]
+
+
+def answer_state(book, told):
+    return [len(book.persons), book.windows]
 
 
 ANSWERED_BY = {
@@ -148,14 +212,22 @@ ANSWERED_BY = {
     8: answer_at,
     9: answer_can,
     10: answer_fewest,
+    11: answer_tight,
+    12: answer_load,
+    13: answer_worthy,
+    14: answer_worth,
+    15: answer_earliest,
+    16: answer_latest,
+    17: answer_could,
+    18: answer_free,
+    19: answer_look,
+    20: answer_state,
 }
 
 
 def answer_one(book, kind, told):
     if kind != START and book.windows == 0:
         return [NOT_STARTED]
-    if kind not in ANSWERED_BY:
-        raise CallNotBuilt(f"call {kind}")
     return ANSWERED_BY[kind](book, told)
 
 

@@ -1,4 +1,4 @@
-"""Persons and their times: whom the plan serves in which slot, and how many windows the spans need."""
+"""Persons and their times: whom the plan serves in which slot, whom all can be served with, what the spans need."""
 
 SLOTS = 40
 
@@ -18,7 +18,7 @@ def can_come(person, slot):
 
 def next_served(persons, served, slot, windows):
     """The numbers of those whom the plan serves in this slot, after those served before it."""
-    waiting = [number for number in sorted(persons) if number not in served and can_come(persons[number], slot)]
+    waiting = [number for number in persons if number not in served and can_come(persons[number], slot)]
     by_end = sorted(waiting, key=lambda number: (persons[number].end, number))
     return by_end[:windows]
 
@@ -30,6 +30,38 @@ def plan_of(persons, windows):
         for number in next_served(persons, served, slot, windows):
             served[number] = slot
     return served
+
+
+def all_served(persons, windows):
+    return len(plan_of(persons, windows)) == len(persons)
+
+
+def all_served_with(persons, windows, number, person):
+    """Whether all could be served if this person stood under this number, as one more or in place of who has it."""
+    changed = dict(persons)
+    changed[number] = person
+    return all_served(changed, windows)
+
+
+def fitting_slots(persons, windows, number):
+    """The slots of one person's time, rising, in which it can be served so that all can be."""
+    person = persons[number]
+    return [slot for slot in range(person.first, person.end)
+            if all_served_with(persons, windows, number, Person(slot, slot + 1, person.counts))]
+
+
+def taken_by_counts(persons, windows):
+    """Those who are taken by what they count, by their numbers."""
+    taken = {}
+    for number in sorted(persons, key=lambda asker: (-persons[asker].counts, asker)):
+        if all_served_with(taken, windows, number, persons[number]):
+            taken[number] = persons[number]
+    return taken
+
+
+def counted(persons):
+    """What they count together."""
+    return sum([persons[number].counts for number in persons])
 
 
 def spans_of(persons):
@@ -44,7 +76,7 @@ def spans_of(persons):
 
 def held_by(persons, first, end):
     """How many can come only from first on, up to end."""
-    return len([number for number in sorted(persons) if persons[number].first >= first and persons[number].end <= end])
+    return len([number for number in persons if persons[number].first >= first and persons[number].end <= end])
 
 
 def span_needs(persons, span):
@@ -55,3 +87,9 @@ def span_needs(persons, span):
 def windows_needed(persons):
     """How many windows the span needs that needs most; 0 where there is no span, as nobody has asked."""
     return max([span_needs(persons, span) for span in spans_of(persons)], default=0)
+
+
+def tightest_span(persons):
+    """The span that needs most; somebody must have asked."""
+    # Of spans that need alike max gives back the one that stands first, and they stand in the order that is asked for.
+    return max(spans_of(persons), key=lambda span: span_needs(persons, span))

@@ -1,4 +1,4 @@
-"""Calls as tuples, and the answers to a line of them as one list for each call."""
+"""Calls as tuples, the answers to a line of them as one list for each call, and how many any way can serve."""
 
 from appointments.book import answers
 
@@ -39,6 +39,40 @@ def at(s):
 
 CAN = (9,)
 FEWEST = (10,)
+TIGHT = (11,)
+
+
+def load(a, b):
+    return (12, a, b)
+
+
+WORTHY = (13,)
+
+
+def worth(*persons):
+    return (14, len(persons)) + persons
+
+
+def earliest(i):
+    return (15, i)
+
+
+def latest(i):
+    return (16, i)
+
+
+def could(r, d):
+    return (17, r, d)
+
+
+FREE = (18,)
+
+
+def look(i):
+    return (19, i)
+
+
+STATE = (20,)
 
 
 def flat(*calls):
@@ -63,3 +97,22 @@ def told(*calls):
 def last(*calls):
     """The answer to the last call of a line."""
     return told(*calls)[-1]
+
+
+def most_served(times, many_windows):
+    """How many can be served in any way at all: places are found by making others give way."""
+    holder = {}
+
+    def find(person, tried):
+        for place_slot in range(times[person][0], times[person][1]):
+            for window in range(many_windows):
+                place = (place_slot, window)
+                if place in tried:
+                    continue
+                tried.add(place)
+                if place not in holder or find(holder[place], tried):
+                    holder[place] = person
+                    return True
+        return False
+
+    return sum(1 for person in sorted(times) if find(person, set()))

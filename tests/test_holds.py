@@ -1,28 +1,11 @@
-"""What holds, a and b: on many books the plan and fewest are held against what the document says of them."""
+"""What holds, a to d: on many books the answers are held against what the document says of them."""
 
+import itertools
 import random
 import unittest
 
-from tests.line import CAN, FEWEST, LEFT, PLAN, ask, at, drop, move, slot, start, told, windows
-
-
-def most_served(times, many_windows):
-    """How many can be served in any way at all: places are found by making others give way."""
-    holder = {}
-
-    def find(person, tried):
-        for place_slot in range(times[person][0], times[person][1]):
-            for window in range(many_windows):
-                place = (place_slot, window)
-                if place in tried:
-                    continue
-                tried.add(place)
-                if place not in holder or find(holder[place], tried):
-                    holder[place] = person
-                    return True
-        return False
-
-    return sum(1 for person in sorted(times) if find(person, set()))
+from tests.line import (CAN, FEWEST, FREE, LEFT, PLAN, TIGHT, WORTHY, ask, at, could, earliest, latest, load,
+                        most_served, slot, start, told, worth)
 
 
 def some_times(dice):
@@ -98,53 +81,105 @@ class Holds(unittest.TestCase):
                         self.check_fewest(times, self.check_views(times, m))
 
 
-class LongLines(unittest.TestCase):
-    """Whole lines of two hundred calls, with what they leave behind kept beside them."""
+def ways(times, many_windows):
+    """All ways that there are, each as the slots of those whom it serves."""
+    numbers = sorted(times)
+    found = []
+    for places in itertools.product(*[[None] + list(range(*times[n])) for n in numbers]):
+        taken = [place for place in places if place is not None]
+        if all(taken.count(place) <= many_windows for place in taken):
+            found.append({n: place for n, place in zip(numbers, places) if place is not None})
+    return found
 
-    def step(self, dice, kept):
-        """One call that changes the book, and what it is to answer; kept is changed likewise."""
-        persons = kept["persons"]
-        i, r, d = dice.randrange(0, 12), dice.randrange(0, 42), dice.randrange(0, 43)
-        v, m = dice.choice([0, 1, 50, 100, 101]), dice.randrange(0, 6)
-        wrong_time = r >= d or d > 40
-        name = dice.choice(["ask", "ask", "ask", "drop", "move", "windows"])
-        if name == "ask":
-            if wrong_time or v > 100:
-                return ask(r, d, v), [-22]
-            if len(persons) == 10:
-                return ask(r, d, v), [-28]
-            number = min(set(range(10)) - set(persons))
-            persons[number] = (r, d, v)
-            return ask(r, d, v), [number]
-        if name == "windows":
-            if m not in (1, 2, 3, 4):
-                return windows(m), [-22]
-            before, kept["windows"] = kept["windows"], m
-            return windows(m), [before]
-        if i not in persons:
-            return (drop(i) if name == "drop" else move(i, r, d)), [-2]
-        if name == "drop":
-            return drop(i), [persons.pop(i)[2]]
-        if wrong_time:
-            return move(i, r, d), [-22]
-        before = persons[i]
-        persons[i] = (r, d, before[2])
-        return move(i, r, d), [before[0], before[1]]
 
-    def test_what_changes_is_answered_and_kept(self):
-        for seed in range(60):
-            dice = random.Random(seed)
-            kept = {"persons": {}, "windows": 1}
-            calls, wanted = [start(1)], [[0]]
-            while len(calls) < 200:
-                call, answer = self.step(dice, kept)
-                calls.append(call)
-                wanted.append(answer)
-                if len(calls) < 200 and dice.randrange(0, 3) == 0:
-                    times = {n: kept["persons"][n][:2] for n in kept["persons"]}
-                    calls.append(CAN)
-                    wanted.append([1 if most_served(times, kept["windows"]) == len(times) else 0])
-            self.assertEqual(told(*calls), wanted, seed)
+def is_there_one_for_all(times, many_windows):
+    return any(len(way) == len(times) for way in ways(times, many_windows))
+
+
+class AllWays(unittest.TestCase):
+    """What holds, a to d, held against all ways that there are on small books."""
+
+    def check(self, persons, m):
+        times = {n: persons[n][:2] for n in persons}
+        every = ways(times, m)
+        line = [start(m)] + [ask(*persons[n]) for n in sorted(persons)]
+        self.check_a(line, times, m, every)
+        self.check_b(line, times)
+        self.check_c(line, persons, every)
+        self.check_d(line, times, every)
+        self.check_could(line, times, m)
+
+    def check_a(self, line, times, m, every):
+        plan, can, free = told(*line, PLAN, CAN, FREE)[-3:]
+        most = max(len(way) for way in every)
+        slots = {n: place - 1 for n, place in zip(sorted(times), plan[1:]) if place > 0}
+        self.assertIn(slots, every)
+        self.assertEqual(plan[0], most)
+        self.assertEqual(can, [1 if most == len(times) else 0])
+        self.assertEqual(free, [40 * m - most])
+
+    def check_b(self, line, times):
+        fewest, tight = told(*line, FEWEST, TIGHT)[-2:]
+        self.assertTrue(is_there_one_for_all(times, fewest[0]))
+        self.assertEqual(tight == [-6], not times)
+        if times:
+            self.assertFalse(is_there_one_for_all(times, fewest[0] - 1))
+            held = [n for n in times if tight[1] <= times[n][0] and times[n][1] <= tight[2]]
+            self.assertEqual(tight[3], len(held))
+            self.assertEqual(tight[0], fewest[0])
+            self.assertTrue((tight[0] - 1) * (tight[2] - tight[1]) < len(held) <= tight[0] * (tight[2] - tight[1]))
+            self.assertEqual(told(*line, load(tight[1], tight[2]))[-1], [len(held)])
+
+    def check_c(self, line, persons, every):
+        def together(numbers):
+            return sum(persons[n][2] for n in numbers)
+        served = {tuple(sorted(way)) for way in every}
+        worthy = told(*line, WORTHY)[-1]
+        taken = tuple(worthy[1:])
+        self.assertIn(taken, served)
+        self.assertEqual(worthy[0], together(taken))
+        self.assertEqual(worthy[0], max(together(numbers) for numbers in served))
+        self.assertEqual(len(taken), max(len(numbers) for numbers in served))
+        for many in range(len(persons) + 1):
+            for numbers in itertools.permutations(sorted(persons), many):
+                wanted = together(numbers) if tuple(sorted(numbers)) in served else -33
+                self.assertEqual(told(*line, worth(*numbers))[-1], [wanted])
+
+    def check_d(self, line, times, every):
+        for n in times:
+            slots = [way[n] for way in every if len(way) == len(times)]
+            self.assertEqual(told(*line, earliest(n), latest(n))[-2:],
+                             [[min(slots, default=-33)], [max(slots, default=-33)]])
+
+    def check_could(self, line, times, m):
+        begin = min([times[n][0] for n in times], default=4)
+        for r, d in [(begin, begin + 1), (begin + 1, begin + 2), (begin, begin + 3)]:
+            wanted = is_there_one_for_all({**times, len(times): (r, d)}, m)
+            self.assertEqual(told(*line, could(r, d))[-1], [1 if wanted else 0])
+
+    def test_nobody(self):
+        for m in [1, 2, 3, 4]:
+            self.check({}, m)
+
+    def test_all_books_of_two_in_three_slots(self):
+        every = [(r, d) for r in range(3) for d in range(r + 1, 4)]
+        for first, second in itertools.product(every, every):
+            for v, w in [(0, 0), (0, 1), (1, 0), (2, 2)]:
+                for m in [1, 2]:
+                    self.check({0: first + (v,), 1: second + (w,)}, m)
+
+    def test_on_many_books(self):
+        dice = random.Random(2)
+        for turn in range(250):
+            stretch = dice.choice([1, 2, 3, 3, 4])
+            begin = dice.choice([0, 7, 38 - stretch])
+            persons = {}
+            for number in range(dice.randrange(2, 5)):
+                r = dice.randrange(0, stretch)
+                d = dice.randrange(r + 1, stretch + 1)
+                persons[number] = (begin + r, begin + d, dice.choice([0, 1, 1, 2, 3, 100]))
+            with self.subTest(turn=turn, persons=persons):
+                self.check(persons, dice.choice([1, 1, 1, 2, 3]))
 
 
 if __name__ == "__main__":

@@ -1,8 +1,8 @@
-"""Point 2: plan, left, slot, at and can."""
+"""Point 2: plan, left, slot, at, free and can."""
 
 import unittest
 
-from tests.line import BIGGEST, CAN, LEFT, PLAN, ask, at, drop, last, slot, start, told, windows
+from tests.line import BIGGEST, CAN, FREE, LEFT, PLAN, ask, at, drop, last, move, slot, start, told, windows
 
 
 def views(*calls):
@@ -117,6 +117,30 @@ class At(unittest.TestCase):
     def test_slots_above(self):
         for s in [40, 41, 2 ** 31, BIGGEST]:
             self.assertEqual(last(start(1), ask(0, 40), at(s)), [-22], s)
+
+
+class Free(unittest.TestCase):
+    def test_nobody(self):
+        for m in [1, 2, 3, 4]:
+            self.assertEqual(last(start(m), FREE), [40 * m])
+
+    def test_each_who_is_served_takes_one_place(self):
+        line = [start(1)]
+        for many in range(1, 11):
+            line.append(ask(0, 40))
+            self.assertEqual(last(*line, FREE), [40 - many])
+
+    def test_who_is_left_takes_none(self):
+        for m in [1, 2, 3, 4]:
+            self.assertEqual(last(start(m), *[ask(5, 6)] * 10, FREE), [39 * m])
+
+    def test_after_windows(self):
+        line = [start(1), ask(5, 6), ask(5, 6), ask(5, 6), FREE, windows(2), FREE, windows(4), FREE, windows(5), FREE]
+        self.assertEqual(told(*line)[4::2], [[39], [78], [157], [157]])
+
+    def test_after_move_drop_and_start(self):
+        line = [start(1), ask(5, 6), ask(5, 6), FREE, move(0, 7, 8), FREE, drop(1), FREE, start(2), FREE]
+        self.assertEqual(told(*line)[3::2], [[39], [38], [39], [80]])
 
 
 class Can(unittest.TestCase):
